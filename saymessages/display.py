@@ -34,7 +34,7 @@ def parts_taken(hole, argument, terms):
 def text_of(hole, argument, separator):
     if hole.kind == GROUP:
         return in_groups(argument, separator)
-    return in_decimal(argument) if isinstance(argument, int) else list(argument)
+    return in_decimal(argument) if isinstance(argument, int) else argument
 
 
 def display_parts(parts, arguments, language):

@@ -1,12 +1,14 @@
 """The languages of a kit, their ways, and the arguments that are there."""
 
 from saymessages.refusals import ComesRound, Full, NoLanguage, NoMessage, NotAllowed
+from saymessages.rows import is_of
 
 TAG_SIGNS = "abcdefghijklmnopqrstuvwxyz0123456789-"
 KEY_SIGNS = "abcdefghijklmnopqrstuvwxyz0123456789_-."
 LONGEST_TAG = 12
 LONGEST_KEY = 24
 LONGEST_SEPARATOR = 4
+LONGEST_MESSAGE = 1024
 MOST_LANGUAGES = 12
 MOST_MESSAGES = 48
 NO_TAG = ()
@@ -42,23 +44,13 @@ class Kit:
         return self.languages[tag]
 
     def way_of(self, tag):
-        way = [self.languages[tag]]
+        way = [self.language_by(tag)]
         while way[-1].fallback != NO_TAG:
             way.append(self.languages[way[-1].fallback])
         return way
 
-    def found(self, tag, key):
-        self.language_by(tag)
-        for steps, language in enumerate(self.way_of(tag)):
-            if key in language.messages:
-                return Found(steps, language, language.messages[key])
-        raise NoMessage()
-
     def check_fallback(self, tag, fallback):
-        if fallback == NO_TAG:
-            return
-        self.language_by(fallback)
-        if tag in [language.tag for language in self.way_of(fallback)]:
+        if fallback != NO_TAG and tag in [language.tag for language in self.way_of(fallback)]:
             raise ComesRound()
 
     # Answers whether the language was there.
@@ -66,13 +58,38 @@ class Kit:
         self.check_fallback(tag, fallback)
         was_there = tag in self.languages
         if not was_there:
-            if len(self.languages) == MOST_LANGUAGES:
-                raise Full()
-            self.languages[tag] = Language(tag)
+            add_language(self.languages, tag)
         language = self.languages[tag]
         language.fallback = fallback
         language.separator = separator
         return was_there
+
+
+def add_language(languages, tag):
+    if len(languages) == MOST_LANGUAGES:
+        raise Full()
+    languages[tag] = Language(tag)
+
+
+# None if no language on the way has a message by that key.
+def first_on_way(way, key):
+    for steps, language in enumerate(way):
+        if key in language.messages:
+            return Found(steps, language, language.messages[key])
+    return None
+
+
+# Whether each language falls back on one that is there, and no way comes round.
+def ways_end(languages):
+    for tag in languages:
+        steps = 0
+        fallback = languages[tag].fallback
+        while fallback != NO_TAG:
+            steps += 1
+            if fallback not in languages or steps == len(languages):
+                return False
+            fallback = languages[fallback].fallback
+    return True
 
 
 # Answers whether another message was in that place.
@@ -90,11 +107,6 @@ def drop_message(language, key):
     language.messages.pop(key)
 
 
-def is_of(row, signs):
-    allowed = [ord(sign) for sign in signs]
-    return all([byte in allowed for byte in row])
-
-
 def check_tag(tag):
     if not 1 <= len(tag) <= LONGEST_TAG or not is_of(tag, TAG_SIGNS) or tag[0] == ord("-"):
         raise NotAllowed()
@@ -107,4 +119,9 @@ def check_key(key):
 
 def check_separator(separator):
     if len(separator) > LONGEST_SEPARATOR:
+        raise NotAllowed()
+
+
+def check_length(message):
+    if len(message) > LONGEST_MESSAGE:
         raise NotAllowed()

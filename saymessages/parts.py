@@ -13,9 +13,10 @@ SAME = "same"
 OTHER = "other"
 
 
-# Its parts, and the slots that it names as any, as a number, as a text, each as bits.
+# Its text, as it was read, its parts, and the slots that it names as any, as a number, as a text, each as bits.
 class Message:
-    def __init__(self, parts, named):
+    def __init__(self, text, parts, named):
+        self.text = text
         self.parts = parts
         self.named = named
 

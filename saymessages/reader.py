@@ -3,12 +3,12 @@
 The reader never takes a byte unless a message can go on with it, so where it stops is the place of the fault.
 """
 
-from saymessages.figures import within_64_bits
+from saymessages.figures import DIGITS, within_64_bits
 from saymessages.parts import ANY, CATEGORY, GROUP, OTHER, PLURAL, SAME, SELECT, Branch, Hole, Message
 from saymessages.refusals import Faulty
+from saymessages.rows import bytes_of
 from saymessages.terms import CATEGORIES
 
-DIGITS = "0123456789"
 DIGITS_IN_FRONT = "123456789"
 DIGITS_BEHIND_1 = "012345"
 WORD_SIGNS = "abcdefghijklmnopqrstuvwxyz0123456789_-"
@@ -40,7 +40,7 @@ class Reader:
         return self.place == len(self.text)
 
     def stands(self, signs):
-        return not self.at_end() and self.text[self.place] in [ord(sign) for sign in signs]
+        return not self.at_end() and self.text[self.place] in bytes_of(signs)
 
     def take_byte(self):
         byte = self.text[self.place]
@@ -93,11 +93,11 @@ class Reader:
         return Branch(OTHER if name == "other" else CATEGORY, CATEGORIES.index(name))
 
     def take_word_key(self):
-        word = [self.take(WORD_SIGNS)]
-        while len(word) < LONGEST_WORD and self.stands(WORD_SIGNS):
-            word.append(self.take(WORD_SIGNS))
-        is_other = word == [ord(sign) for sign in "other"]
-        return Branch(OTHER if is_other else SAME, tuple(word))
+        signs = [self.take(WORD_SIGNS)]
+        while len(signs) < LONGEST_WORD and self.stands(WORD_SIGNS):
+            signs.append(self.take(WORD_SIGNS))
+        word = tuple(signs)
+        return Branch(OTHER if word == bytes_of("other") else SAME, word)
 
     def counted_slot(self):
         return self.levels[-1].counted if self.levels else None
@@ -163,4 +163,4 @@ def read_message(text):
         reader.read_part()
     if reader.levels:
         raise Faulty(reader.place)
-    return Message(reader.parts, reader.named)
+    return Message(text, reader.parts, reader.named)

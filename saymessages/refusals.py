@@ -18,7 +18,7 @@ class NoLanguage(Refused):
         Refused.__init__(self, -3, [])
 
 
-# Where a message by that key was looked for there is none.
+# Where a message by that key was looked for there is none, or there are no more keys than that.
 class NoMessage(Refused):
     def __init__(self):
         Refused.__init__(self, -4, [])
@@ -34,6 +34,12 @@ class ComesRound(Refused):
 class Faulty(Refused):
     def __init__(self, place):
         Refused.__init__(self, -6, [place])
+
+
+# A text is no kit's text: this is its first wrong line.
+class WrongLine(Refused):
+    def __init__(self, line):
+        Refused.__init__(self, -6, [line])
 
 
 # Arguments are wanted: their slots as bits.

@@ -19,22 +19,38 @@ class Term:
         self.high = numbers[5]
 
 
+# In the order in which a term is told.
+def numbers_of(term):
+    return [term.category, term.ends, term.outside, term.modulus, term.low, term.high]
+
+
 def term_is_allowed(term):
     if term.category > OTHER_CATEGORY or term.ends > 1 or term.outside > 1:
         return False
     return term.modulus < BOUND and term.low < BOUND and term.high < BOUND
 
 
+def read_term(numbers):
+    if len(numbers) != NUMBERS_OF_A_TERM:
+        raise NotAllowed()
+    term = Term(numbers)
+    if not term_is_allowed(term):
+        raise NotAllowed()
+    return term
+
+
+# Whether no term is left over behind the last alternative.
+def terms_end(terms):
+    return len(terms) == 0 or terms[-1].ends == 1
+
+
 def read_terms(numbers):
-    if len(numbers) % NUMBERS_OF_A_TERM != 0 or len(numbers) > MOST_TERMS * NUMBERS_OF_A_TERM:
+    if len(numbers) > MOST_TERMS * NUMBERS_OF_A_TERM:
         raise NotAllowed()
     terms = []
     for start in range(0, len(numbers), NUMBERS_OF_A_TERM):
-        terms.append(Term(numbers[start:start + NUMBERS_OF_A_TERM]))
-    for term in terms:
-        if not term_is_allowed(term):
-            raise NotAllowed()
-    if terms and terms[-1].ends == 0:
+        terms.append(read_term(numbers[start:start + NUMBERS_OF_A_TERM]))
+    if not terms_end(terms):
         raise NotAllowed()
     return terms
 

@@ -1,5 +1,6 @@
-"""What the tests share: calls laid out as lists, answers taken apart, and a grammar that judges texts by itself."""
+"""What the tests share: calls laid out as lists, answers taken apart, and judges of messages and of kit's texts."""
 
+import re
 from functools import lru_cache
 
 from saymessages.kit import answers
@@ -9,10 +10,10 @@ MOST = 2 ** 63 - 1
 CATEGORIES = ("zero", "one", "two", "few", "many", "other")
 
 
-def row(text):
-    if isinstance(text, str):
-        text = text.encode("latin-1")
-    return [len(text)] + list(text)
+def row(told):
+    if isinstance(told, str):
+        told = told.encode("latin-1")
+    return [len(told)] + list(told)
 
 
 def language(tag, fallback="", separator=""):
@@ -57,6 +58,50 @@ def wants(tag, key):
 
 def slots(tag, key):
     return [11] + row(tag) + row(key)
+
+
+def text(tag, key):
+    return [12] + row(tag) + row(key)
+
+
+def category(value, tag):
+    return [13, value] + row(tag)
+
+
+def keys(tag):
+    return [14] + row(tag)
+
+
+def key(place, tag):
+    return [15, place] + row(tag)
+
+
+def lacks(tag):
+    return [16] + row(tag)
+
+
+def lack(place, tag):
+    return [17, place] + row(tag)
+
+
+def odds(tag):
+    return [18] + row(tag)
+
+
+def odd(place, tag):
+    return [19, place] + row(tag)
+
+
+def chain(tag):
+    return [20] + row(tag)
+
+
+def save():
+    return [21]
+
+
+def load(told):
+    return [22] + row(told)
 
 
 def taken_apart(told):
@@ -111,18 +156,18 @@ DIGIT = frozenset(b"0123456789")
 WORD = frozenset(b"abcdefghijklmnopqrstuvwxyz0123456789_-")
 
 
-def signs(text):
-    return [frozenset([ord(sign)]) for sign in text]
+def signs(told):
+    return [frozenset([ord(sign)]) for sign in told]
 
 
 def up_to(bound):
     """The whole numbers above 0 that are at most bound, choice by choice."""
-    text = str(bound)
-    choices = [[DIGIT - set(b"0")] + [DIGIT] * more for more in range(len(text) - 1)] + [signs(text)]
-    for place, digit in enumerate(text):
+    told = str(bound)
+    choices = [[DIGIT - set(b"0")] + [DIGIT] * more for more in range(len(told) - 1)] + [signs(told)]
+    for place, digit in enumerate(told):
         lower = frozenset(sign for sign in DIGIT if (sign > 48 or place > 0) and sign < ord(digit))
         if lower:
-            choices.append(signs(text[:place]) + [lower] + [DIGIT] * (len(text) - place - 1))
+            choices.append(signs(told[:place]) + [lower] + [DIGIT] * (len(told) - place - 1))
     return choices
 
 
@@ -185,11 +230,86 @@ def gone_on(stacks, byte):
     return spread([stack[1:] for stack in stacks if stack and byte in stack[0]])
 
 
-def fault_of(text, stacks=None, place=0):
-    """The place of the fault of text, None if it is a message; stacks may stand for what is before place."""
+def fault_of(told, stacks=None, place=0):
+    """The place of the fault of a text, None if it is a message; stacks may stand for what is before place."""
     stacks = begun() if stacks is None else stacks
-    for at in range(place, len(text)):
-        stacks = gone_on(stacks, text[at])
+    for at in range(place, len(told)):
+        stacks = gone_on(stacks, told[at])
         if not stacks:
             return at
-    return None if () in stacks else len(text)
+    return None if () in stacks else len(told)
+
+
+# The kit's text, read as section 5 tells it.
+
+TAG = rb"[a-z0-9][a-z0-9-]{0,11}"
+DECIMAL = rb"(0|[1-9][0-9]{0,9})"
+LANGUAGE_LINE = re.compile(rb"language (" + TAG + rb") (-|" + TAG + rb") (?:-|(?:[0-9a-f]{2}){1,4})\n")
+RULE_LINE = re.compile(rb"rule [0-5] ([01]) [01] " + DECIMAL + rb" " + DECIMAL + rb" " + DECIMAL + rb"\n")
+MESSAGE_LINE = re.compile(rb"message ([a-z0-9_.-]{1,24}) " + DECIMAL + rb"\n")
+
+
+class KitText:
+    """What has been read of a text: the languages' fallbacks, and the last one's rules and keys."""
+
+    def __init__(self, told):
+        self.told = told
+        self.place = len(b"say\n")
+        self.fallbacks = {}
+        self.rules = []
+        self.keys = []
+
+    def ended(self):
+        return not self.rules or self.rules[-1]
+
+    def takes_language(self, match):
+        if match[1] in self.fallbacks or len(self.fallbacks) == 12 or not self.ended():
+            return False
+        self.fallbacks[match[1]] = match[2]
+        self.rules, self.keys, self.place = [], [], match.end()
+        return True
+
+    def takes_rule(self, match):
+        if not self.fallbacks or self.keys or len(self.rules) == 32 or max(map(int, match.groups())) >= 2 ** 32:
+            return False
+        self.rules.append(match[1] == b"1")
+        self.place = match.end()
+        return True
+
+    def takes_message(self, match):
+        if not self.fallbacks or not self.ended() or len(self.keys) == 48 or match[1] <= max(self.keys, default=b""):
+            return False
+        self.keys.append(match[1])
+        self.place = match.end() + int(match[2])
+        body = self.told[match.end():self.place]
+        self.place += 1
+        return int(match[2]) <= 1024 and self.told[self.place - 1:self.place] == b"\n" and fault_of(body) is None
+
+    def takes_one(self):
+        for line, takes in ((LANGUAGE_LINE, self.takes_language), (RULE_LINE, self.takes_rule),
+                            (MESSAGE_LINE, self.takes_message)):
+            match = line.match(self.told, self.place)
+            if match:
+                return takes(match)
+        return False
+
+    def way_ends(self, tag):
+        passed = set()
+        while tag in self.fallbacks and tag not in passed:
+            passed.add(tag)
+            tag = self.fallbacks[tag]
+        return tag == b"-"
+
+
+def answer_to_load(told):
+    """How many languages a text has, or that it's refused with the number of its first wrong line."""
+    if not told.startswith(b"say\n"):
+        return -6, [0], b""
+    kit = KitText(told)
+    while kit.place < len(told):
+        lines = told[:kit.place].count(b"\n")
+        if not kit.takes_one():
+            return -6, [lines], b""
+    if kit.ended() and all(kit.way_ends(tag) for tag in kit.fallbacks):
+        return len(kit.fallbacks), [], b""
+    return -6, [told.count(b"\n")], b""

@@ -4,14 +4,26 @@ import random
 import unittest
 
 from saymessages.kit import answers
-from tests.helper import (clear, drop, judge, language, number, put, rules, show, slots, wants, word)
+from tests.helper import (category, chain, clear, drop, judge, key, keys, lack, lacks, language, load, number, odd,
+                          odds, put, rules, save, show, slots, text, wants, word)
 
 A = 97
+B = 98
 K = 107
+SAVED = b"say\nlanguage a - 2c\nrule 1 1 0 0 1 1\nmessage k 3\n{0}\nlanguage b a -\nmessage k 9\n{1 group}\n"
 
 
 def flat(*calls):
     return [one for call in calls for one in call]
+
+
+def all_calls():
+    return flat(language("a", "", ","), language("b", "a"), rules("a", (1, 1, 0, 0, 1, 1)), put("a", "k", "{0}"),
+                put("b", "k", "{1 group}"), put("b", "j", "x"), clear(), judge("{1}{0 select[other|]}"), number(0, 1),
+                word(1, "y"), show("b", "k"), wants("b", "k"), slots("b", "k"), text("b", "k"), category(-1, "a"),
+                keys("b"), key(0, "b"), lacks("b"), lack(0, "b"), odds("b"), odd(0, "b"), chain("b"), drop("b", "j"),
+                save(), load("say\nlanguage c - -\n"), chain("b"), load(SAVED), number(0, 7), drop("b", "k"),
+                show("b", "k"), clear(), show("b", "k"))
 
 
 class WholeLists(unittest.TestCase):
@@ -61,16 +73,64 @@ class WholeLists(unittest.TestCase):
         message = "{0 plural[one|# file was][other|# files were]} copied to {1}"
         calls = flat(language("en", "", ","), rules("en", (1, 1, 0, 0, 1, 1)), put("en", "copied", message),
                      number(0, 1200), word(1, "/tmp"), show("en", "copied"))
-        text = b"1,200 files were copied to /tmp"
+        told = b"1,200 files were copied to /tmp"
         self.assertEqual(answers(calls), [3, 0, 0, 0, 3, 1, 0, 0] + [3, 0, 0, 0] * 3
-                         + [4 + len(text), 0, 1, 0, len(text)] + list(text))
+                         + [4 + len(told), 0, 1, 0, len(told)] + list(told))
+
+    def test_text(self):
+        base = [1, 1, A, 0, 0, 1, 1, B, 1, A, 0, 3, 1, A, 1, K, 3, 123, 51, 125]
+        self.assertEqual(answers(base + [12, 1, A, 1, K, 12, 1, B, 1, K, 12, 1, B, 1, A]),
+                         [3, 0, 0, 0] * 3 + [6, 0, 0, 3, 123, 51, 125, 6, 1, 0, 3, 123, 51, 125, 3, -4, 0, 0])
+
+    def test_category(self):
+        base = [1, 1, A, 0, 0, 2, 1, A, 6, 3, 1, 0, 0, 7, 7]
+        self.assertEqual(answers(base + [13, -7, 1, A, 13, 8, 1, A, 13, 2 ** 63, 1, A, 13, 0, 1, B]),
+                         [3, 0, 0, 0, 3, 1, 0, 0, 3, 3, 0, 0, 3, 5, 0, 0, 3, -1, 0, 0, 3, -3, 0, 0])
+
+    def test_keys_and_key(self):
+        base = [1, 1, A, 0, 0, 3, 1, A, 2, K, K, 0, 3, 1, A, 1, K, 0]
+        self.assertEqual(answers(base + [14, 1, A, 15, 0, 1, A, 15, 1, 1, A, 15, 2, 1, A, 14, 1, B]),
+                         [3, 0, 0, 0] * 3 + [3, 2, 0, 0, 4, 0, 0, 1, K, 5, 0, 0, 2, K, K, 3, -4, 0, 0, 3, -3, 0, 0])
+
+    def test_lacks_and_lack(self):
+        base = [1, 1, A, 0, 0, 1, 1, B, 1, A, 0, 3, 1, A, 1, K, 0]
+        self.assertEqual(answers(base + [16, 1, B, 17, 0, 1, B, 17, 1, 1, B, 16, 1, A, 17, 0, 1, A]),
+                         [3, 0, 0, 0] * 3 + [3, 1, 0, 0, 4, 0, 0, 1, K, 3, -4, 0, 0, 3, 0, 0, 0, 3, -4, 0, 0])
+
+    def test_odds_and_odd(self):
+        base = [1, 1, A, 0, 0, 1, 1, B, 1, A, 0, 3, 1, A, 1, K, 0, 3, 1, B, 1, K, 3, 123, 51, 125]
+        self.assertEqual(answers(base + [18, 1, B, 19, 0, 1, B, 19, 1, 1, B, 18, 1, A, 19, 2 ** 63 - 1, 1, A]),
+                         [3, 0, 0, 0] * 4 + [3, 1, 0, 0, 4, 0, 0, 1, K, 3, -4, 0, 0, 3, 0, 0, 0, 3, -4, 0, 0])
+
+    def test_chain(self):
+        self.assertEqual(answers([1, 1, A, 0, 0, 1, 2, B, B, 1, A, 0, 20, 2, B, B, 20, 1, A, 20, 1, B]),
+                         [3, 0, 0, 0] * 2 + [7, 2, 0, 4, B, B, 32, A, 4, 1, 0, 1, A, 3, -3, 0, 0])
+
+    def test_save_and_load(self):
+        say = list(b"say\n")
+        told = list(b"say\nlanguage a - -\n")
+        self.assertEqual(answers([21]), [7, 0, 0, 4] + say)
+        self.assertEqual(answers([1, 1, A, 0, 0, 21]), [3, 0, 0, 0, 22, 0, 0, 19] + told)
+        self.assertEqual(answers([22, 19] + told + [21, 22, 4] + say + [21]),
+                         [3, 1, 0, 0, 22, 0, 0, 19] + told + [3, 0, 0, 0, 7, 0, 0, 4] + say)
+        self.assertEqual(answers([22, 0, 22, 5] + say + [10, 22, 3] + say[:3]),
+                         [4, -6, 1, 0, 0, 4, -6, 1, 1, 0, 4, -6, 1, 0, 0])
+
+    def test_all_calls_in_one_list(self):
+        zero = [3, 0, 0, 0]
+        self.assertEqual(answers(all_calls()), zero * 2 + [3, 1, 0, 0] + zero * 4 + [6, 0, 3, 2, 0, 1, 0] + zero * 2
+                         + [4, -7, 1, 2, 0, 3, 2, 0, 0, 6, 0, 3, 0, 2, 0, 0, 12, 0, 0, 9] + list(b"{1 group}")
+                         + [3, 1, 0, 0, 3, 2, 0, 0, 4, 0, 0, 1, 106] + zero + [3, -4, 0, 0, 3, 1, 0, 0, 4, 0, 0, 1, 107]
+                         + [6, 2, 0, 3, 98, 32, 97] + zero + [3 + len(SAVED), 0, 0, len(SAVED)] + list(SAVED)
+                         + [3, 1, 0, 0, 3, -3, 0, 0, 3, 2, 0, 0] + zero * 2 + [5, 0, 1, 1, 1, 55] + zero
+                         + [4, -7, 1, 1, 0])
 
 
 def some_calls():
-    return flat(language("a", "", ","), language("b", "a"), rules("a", (1, 1, 0, 0, 1, 1)), put("a", "k", "{0}{1 group}"),
-                number(0, 1), number(1, 1000), show("b", "k"), wants("b", "k"), slots("b", "k"), judge("{1}{"), judge("{1}"),
-                put("b", "k", "{2 select[a|1][other|{3}]}"), word(2, "a"), show("b", "k"), drop("b", "k"), clear(),
-                show("b", "k"), language("a", "b"), rules("x"), word(16, "abc"))
+    return flat(language("a", "", ","), language("b", "a"), rules("a", (1, 1, 0, 0, 1, 1)),
+                put("a", "k", "{0}{1 group}"), number(0, 1), number(1, 1000), show("b", "k"), wants("b", "k"),
+                slots("b", "k"), judge("{1}{"), judge("{1}"), put("b", "k", "{2 select[a|1][other|{3}]}"), word(2, "a"), show("b", "k"), drop("b", "k"), clear(),
+                show("b", "k"), language("a", "b"), rules("x"), word(16, "abc")) + all_calls()
 
 
 class HandedIn(unittest.TestCase):
@@ -99,7 +159,9 @@ class HandedIn(unittest.TestCase):
 
     def test_nothing_is_kept(self):
         first = answers(some_calls())
-        self.assertEqual(answers(flat(show("a", "k"), wants("b", "k"), language("b", "a"))), [3, -3, 0, 0] * 3)
+        self.assertEqual(answers(flat(show("a", "k"), wants("b", "k"), language("b", "a"), text("a", "k"), chain("a"))),
+                         [3, -3, 0, 0] * 5)
+        self.assertEqual(answers(save()), [7, 0, 0, 4] + list(b"say\n"))
         self.assertEqual(answers(flat(language("a"), put("a", "k", "{0}{1}"), show("a", "k")))[8:], [4, -7, 1, 3, 0])
         self.assertEqual(answers(some_calls()), first)
 
@@ -117,11 +179,30 @@ class HandedIn(unittest.TestCase):
         told = answers(calls)
         self.assertEqual(len(told), 12 + 20 * (5 + 800 * 44))
 
+    def test_the_longest_text(self):
+        lines = b"say\n" + b"".join(b"language l%x - -\n" % count for count in range(12))
+        for count in range(12):
+            message = b"message k%02d 1024\n" % count + b"{0}\n" * 256 + b"\n"
+            lines += message if len(lines) + len(message) <= 14000 else b""
+        self.assertGreater(len(lines), 12500)
+        self.assertEqual(answers(flat(load(lines), save(), save()))[4:],
+                         ([3 + len(lines), 0, 0, len(lines)] + list(lines)) * 2)
+        nested = b"{0 plural[other|" * 8 + b"x" * 800 + b"]}" * 8
+        lines = b"say\nlanguage a - -\n" + b"".join(b"message k%d %d\n%s\n" % (count, len(nested), nested)
+                                                     for count in range(10))
+        self.assertEqual(answers(flat(load(lines), keys("a"))), [3, 1, 0, 0, 3, 10, 0, 0])
+        blanks = b"say\n" + b" " * 13996
+        self.assertEqual(answers(flat(load(blanks))), [4, -6, 1, 1, 0])
+        self.assertEqual(answers(flat(load(b"say\n" + b"\n" * 13996))), [4, -6, 1, 1, 0])
+        self.assertEqual(answers(flat(load(b"say\nlanguage a - " + b"0" * 13000))), [4, -6, 1, 1, 0])
+
     def test_one_behind_another_is_as_one_by_one(self):
         chance = random.Random(5)
         pool = [language("a"), language("b", "a"), put("a", "k", "{0}"), put("b", "k", "{1 group}"), number(0, 5),
                 number(1, 5), word(0, "x"), word(1, "x"), clear(), drop("b", "k"), drop("a", "k"), show("a", "k"),
-                show("b", "k"), wants("b", "k"), slots("b", "k"), judge("{0}"), rules("a"), language("b")]
+                show("b", "k"), wants("b", "k"), slots("b", "k"), judge("{0}"), rules("a"), language("b"),
+                text("b", "k"), category(1, "a"), keys("b"), key(0, "b"), lacks("b"), lack(0, "b"), odds("b"),
+                odd(0, "b"), chain("b"), save(), load(SAVED), load("say\nlanguage a - -\n")]
         for turn in range(60):
             calls = [chance.choice(pool) for count in range(30)]
             told = answers(flat(*calls))

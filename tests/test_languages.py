@@ -2,7 +2,8 @@
 
 import unittest
 
-from tests.helper import drop, language, last, number, put, rules, run, show, slots, wants, word
+from tests.helper import (chain, drop, language, last, load, number, put, rules, run, show, slots, text, wants,
+                          word)
 
 TAGS = ["l%d" % count for count in range(12)]
 
@@ -124,6 +125,63 @@ class Ways(unittest.TestCase):
         told = run(language("a"), language("b"), put("a", "k", "{0}"), put("b", "k", "<{0}>"), word(0, "x"),
                    show("a", "k"), show("b", "k"))
         self.assertEqual(told[5:], [(0, [0], b"x"), (0, [0], b"<x>")])
+
+
+class Texts(unittest.TestCase):
+    def test_as_it_was_put(self):
+        for message in ("", "x", "\n", "{0}", "\\#\\{{3 plural[=1|#][few|{2}][other|\\#]}", bytes(range(91)),
+                        "a" * 1024):
+            told = message if isinstance(message, bytes) else message.encode()
+            self.assertEqual(last(language("a"), put("a", "k", message), text("a", "k")), (0, [], told))
+
+    def test_arguments_do_not_matter(self):
+        told = run(language("a"), put("a", "k", "{0}{1 group}"), text("a", "k"), word(0, "x"), text("a", "k"))
+        self.assertEqual((told[2], told[4]), ((0, [], b"{0}{1 group}"),) * 2)
+
+    def test_first_on_the_way(self):
+        base = [language("a"), language("b", "a"), language("c", "b"), put("a", "k", "{0}"), put("b", "j", "b"),
+                put("a", "j", "a")]
+        told = run(*base, text("a", "k"), text("b", "k"), text("c", "k"), text("a", "j"), text("b", "j"),
+                   text("c", "j"), text("c", "i"), drop("b", "j"), text("c", "j"), put("c", "j", "c"), text("c", "j"), text("b", "j"))
+        self.assertEqual(told[6:], [(0, [], b"{0}"), (1, [], b"{0}"), (2, [], b"{0}"), (0, [], b"a"), (0, [], b"b"),
+                                    (1, [], b"b"), (-4, [], b""), (0, [], b""), (2, [], b"a"), (0, [], b""),
+                                    (0, [], b"c"), (1, [], b"a")])
+
+    def test_all_12(self):
+        for owner in range(12):
+            told = run(*row_of_languages(12), put(TAGS[owner], "k", "{1}"), *[text(tag, "k") for tag in TAGS])
+            for asked, answer in enumerate(told[13:]):
+                self.assertEqual(answer, (asked - owner, [], b"{1}") if asked >= owner else (-4, [], b""))
+
+
+class Chains(unittest.TestCase):
+    def test_of_1_to_12(self):
+        for count in range(1, 13):
+            told = run(*row_of_languages(12), chain(TAGS[count - 1]))[-1]
+            self.assertEqual(told, (count, [], " ".join(TAGS[:count][::-1]).encode()))
+
+    def test_as_it_is_now(self):
+        told = run(language("a"), chain("a"), language("b-2", "a"), chain("b-2"), chain("a"), language("c"),
+                   language("a", "c"), chain("b-2"), language("a", "b-2"), chain("b-2"), language("a"), chain("b-2"),
+                   language("b-2"), chain("b-2"), chain("x"))
+        self.assertEqual([told[place] for place in (1, 3, 4, 7, 9, 11, 13, 14)],
+                         [(1, [], b"a"), (2, [], b"b-2 a"), (1, [], b"a"), (3, [], b"b-2 a c"), (3, [], b"b-2 a c"),
+                          (2, [], b"b-2 a"), (1, [], b"b-2"), (-3, [], b"")])
+
+    def test_of_what_was_loaded(self):
+        told = run(load("say\nlanguage a c -\nlanguage b - -\nlanguage c b -\n"), chain("a"), chain("b"), chain("c"),
+                   language("b", "a"), language("b", "c"), language("d", "a"), chain("d"))
+        self.assertEqual(told, [(3, [], b""), (3, [], b"a c b"), (1, [], b"b"), (2, [], b"c b"), (-5, [], b""),
+                                (-5, [], b""), (0, [], b""), (4, [], b"d a c b")])
+
+    def test_a_loaded_text_whose_ways_come_round(self):
+        for count in range(1, 13):
+            for target in range(count):
+                lines = ["language l%d l%d -\n" % (place, place + 1) for place in range(count - 1)]
+                lines.append("language l%d l%d -\n" % (count - 1, target))
+                for order in (lines, lines[::-1]):
+                    told = run(language("a"), load("say\n" + "".join(order)), chain("l0"), chain("a"))
+                    self.assertEqual(told[1:], [(-6, [count + 1], b""), (-3, [], b""), (1, [], b"a")])
 
 
 if __name__ == "__main__":

@@ -3,7 +3,7 @@
 import random
 import unittest
 
-from tests.helper import CATEGORIES, LEAST, MOST, clear, language, last, number, put, rules, run, show
+from tests.helper import CATEGORIES, LEAST, MOST, category, clear, language, last, number, put, rules, run, show
 
 BY_CATEGORY = "{0 plural[zero|0][one|1][two|2][few|3][many|4][other|5]}"
 LARGEST = 2 ** 32 - 1
@@ -18,13 +18,16 @@ SAMPLE = (
 
 
 def categories(terms, values):
-    """The category of each value, as the branch that's shown tells it."""
+    """The category of each value, as the branch that's shown tells it and as it's answered."""
     told = []
     for start in range(0, len(values), 100):
         calls = [language("a"), rules("a", *terms), put("a", "k", BY_CATEGORY)]
         for value in values[start:start + 100]:
-            calls.extend([number(0, value), show("a", "k")])
-        told.extend(int(text) for answer, numbers, text in run(*calls)[4::2])
+            calls.extend([number(0, value), show("a", "k"), category(value, "a")])
+        answers = run(*calls)
+        told.extend(int(text) for answer, numbers, text in answers[4::3])
+        if answers[5::3] != [(int(text), [], b"") for answer, numbers, text in answers[4::3]]:
+            raise AssertionError("what's shown and what's answered differ: %s" % (terms,))
     return told
 
 
@@ -97,8 +100,8 @@ class Rules(unittest.TestCase):
 
 class Categories(unittest.TestCase):
     def test_each(self):
-        for category in range(6):
-            self.assertEqual(categories([(category, 1, 0, 0, 7, 7)], [6, 7, 8]), [5, category, 5])
+        for one in range(6):
+            self.assertEqual(categories([(one, 1, 0, 0, 7, 7)], [6, 7, 8]), [5, one, 5])
 
     def test_sample(self):
         values = [0, 1, 2, 4, 5, 10, 11, 12, 14, 15, 22, 24, 30, 100, 101, 112, 122]
@@ -150,12 +153,56 @@ class Categories(unittest.TestCase):
             self.assertEqual(categories(terms, values), [expected_category(terms, value) for value in values], terms)
 
     def test_names_stand_for_their_categories(self):
-        for category, name in enumerate(CATEGORIES[:5]):
+        for one, name in enumerate(CATEGORIES[:5]):
             message = "{0 plural[" + name + "|yes][other|no]}"
             for told in range(6):
                 answer = last(language("a"), rules("a", (told, 1, 0, 0, 0, 9)), put("a", "k", message), number(0, 3),
                               show("a", "k"))
-                self.assertEqual(answer[2], b"yes" if told == category else b"no")
+                self.assertEqual(answer[2], b"yes" if told == one else b"no")
+
+
+class Answered(unittest.TestCase):
+    def told(self, value, *terms):
+        return last(language("a"), rules("a", *terms), category(value, "a"))
+
+    def test_each(self):
+        for one in range(6):
+            self.assertEqual(self.told(7, (one, 1, 0, 0, 7, 7)), (one, [], b""))
+            self.assertEqual(self.told(-7, (one, 1, 0, 0, 7, 7)), (one, [], b""))
+            self.assertEqual(self.told(8, (one, 1, 0, 0, 7, 7)), (5, [], b""))
+
+    def test_without_rules(self):
+        for value in (0, 1, -1, LEAST, MOST):
+            self.assertEqual(self.told(value), (5, [], b""))
+
+    def test_ends_of_64_bits(self):
+        for terms, least, most in ((((1, 1, 0, 10, 8, 8), (2, 1, 0, 10, 7, 7)), 1, 2),
+                                   (((1, 1, 1, 0, 0, LARGEST),), 1, 1), (((1, 1, 0, 0, 0, LARGEST),), 5, 5),
+                                   (((1, 1, 0, LARGEST, 2147483648, 2147483648),), 1, 5),
+                                   (((3, 1, 1, 10, 8, 8),), 5, 3)):
+            self.assertEqual(self.told(LEAST, *terms), (least, [], b""), terms)
+            self.assertEqual(self.told(MOST, *terms), (most, [], b""), terms)
+            for value in (LEAST - 1, MOST + 1, -2 ** 65, 2 ** 65 - 1):
+                self.assertEqual(self.told(value, *terms), (-1, [], b""), terms)
+
+    def test_outside_with_and_without_a_modulus(self):
+        for value, without, beside in ((2, 4, 4), (3, 5, 5), (5, 5, 5), (6, 4, 4), (13, 4, 5), (-13, 4, 5),
+                                       (-16, 4, 4)):
+            self.assertEqual(self.told(value, (4, 1, 1, 0, 3, 5)), (without, [], b""), value)
+            self.assertEqual(self.told(value, (4, 1, 1, 10, 3, 5)), (beside, [], b""), value)
+
+    def test_rules_of_the_language_itself(self):
+        told = run(language("a"), language("b", "a"), rules("a", (1, 1, 0, 0, 1, 1)), category(1, "b"),
+                   category(1, "a"), rules("b", (2, 1, 0, 0, 1, 1)), category(1, "b"), category(1, "a"))
+        self.assertEqual([told[place] for place in (3, 4, 6, 7)],
+                         [(5, [], b""), (1, [], b""), (2, [], b""), (1, [], b"")])
+
+    def test_a_value_beyond_is_told_first(self):
+        for tag, told in (("a", 5), ("b", -3), ("", -1), ("-", -1), ("A", -1)):
+            self.assertEqual(last(language("a"), category(MOST, tag)), (told, [], b""))
+            self.assertEqual(last(language("a"), category(LEAST, tag)), (told, [], b""))
+            self.assertEqual(last(language("a"), category(MOST + 1, tag)), (-1, [], b""))
+            self.assertEqual(last(language("a"), category(LEAST - 1, tag)), (-1, [], b""))
 
 
 def groups(value, separator):

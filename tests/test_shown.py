@@ -204,8 +204,8 @@ def named(items):
     return bits
 
 
-def expected(items, arguments):
-    """The slots wanted, as bits, and the text."""
+def expected(items, arguments, name_of=category, separator=","):
+    """The slots wanted, as bits, and the text; name_of tells the name of a number's category."""
     wanted, text = 0, ""
     for item in items:
         if item[0] in ("byte", "escape"):
@@ -218,11 +218,11 @@ def expected(items, arguments):
         elif item[0] == "any":
             text += str(value)
         elif item[0] in ("group", "sign"):
-            text += "{:,}".format(value)
+            text += "{:,}".format(value).replace(",", separator)
         else:
-            fitting = ["=%d" % value, category(value)] if item[0] == "plural" else [value]
+            fitting = ["=%d" % value, name_of(value)] if item[0] == "plural" else [value]
             taken = [within for key, within in item[2] if key in fitting or key == "other"][0]
-            more, within = expected(taken, arguments)
+            more, within = expected(taken, arguments, name_of, separator)
             wanted, text = wanted | more, text + within
     return wanted, text
 
